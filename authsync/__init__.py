@@ -1,0 +1,1 @@
+"""Authsync: authorization from many places."""

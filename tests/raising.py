@@ -1,0 +1,17 @@
+"""Asserting what an error says."""
+
+import unittest
+
+from authsync.errors import BadSchema, Refused
+
+
+class RaisingTest(unittest.TestCase):
+    def assert_refused(self, what, index, call, *values):
+        with self.assertRaises(Refused) as caught:
+            call(*values)
+        self.assertEqual((caught.exception.what, caught.exception.index), (what, index))
+
+    def assert_bad_schema(self, line, what, call, *values):
+        with self.assertRaises(BadSchema) as caught:
+            call(*values)
+        self.assertEqual((caught.exception.line, caught.exception.what), (line, what))
