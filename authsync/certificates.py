@@ -12,9 +12,13 @@ def certify(schema, relationships, target, name, subject):
     check_relationships(schema, relationships)
     check_question(schema, target, name, subject)
     rules = Rules(schema, relationships)
-    pairs = sorted(rules.reached_from((target, name)))
-    rounds = Rounds(rules, pairs, subject)
-    entries = [(*pair, rounds.rank(pair, subject)) for pair in pairs]
+    rounds = Rounds(rules, rules.reached_from((target, name)), subject)
+    return certificate_by(rules, rounds, target, name, subject)
+
+
+def certificate_by(rules, rounds, target, name, subject):
+    """Return the certificate of a question whose pair and all on which it depends are among those of the rounds."""
+    entries = [(*pair, rounds.rank(pair, subject)) for pair in sorted(rules.reached_from((target, name)))]
     return (rounds.rank((target, name), subject) > 0, entries)
 
 

@@ -3,9 +3,9 @@
 from authsync.errors import Refused
 
 
-def _without(grants, others):
-    """Return the grants that are not among others, ascending."""
-    return sorted(set(grants) - set(others))
+def without(rows, others):
+    """Return the rows that are not among others, ascending."""
+    return sorted(set(rows) - set(others))
 
 
 def _in_both(grants, others):
@@ -15,13 +15,13 @@ def _in_both(grants, others):
 
 def difference(before, after):
     """Return the change that turns the grants before into the grants after."""
-    return (_without(after, before), _without(before, after))
+    return (without(after, before), without(before, after))
 
 
 def applies(grants, change):
     """Return whether a change applies to grants."""
     gained, lost = change
-    return _in_both(gained, grants) == [] and _without(lost, grants) == []
+    return _in_both(gained, grants) == [] and without(lost, grants) == []
 
 
 def apply_change(grants, change):
@@ -29,7 +29,7 @@ def apply_change(grants, change):
     if not applies(grants, change):
         raise Refused("change does not apply")
     gained, lost = change
-    return sorted([*_without(grants, lost), *gained])
+    return sorted([*without(grants, lost), *gained])
 
 
 def compose(first, second):
@@ -38,4 +38,4 @@ def compose(first, second):
         raise Refused("changes do not compose")
     gained = [*first[0], *second[0]]
     lost = [*first[1], *second[1]]
-    return (_without(gained, lost), _without(lost, gained))
+    return (without(gained, lost), without(lost, gained))

@@ -30,6 +30,11 @@ def is_reference(text):
     return is_object(target) and (sign == "" or is_identifier(name))
 
 
+def is_grant(target, name, subject):
+    """Return whether texts are the parts of a grant or a question: an object, an identifier and an object."""
+    return is_object(target) and is_identifier(name) and is_object(subject)
+
+
 def type_of(target):
     """Return the type of an object."""
     return target.partition(":")[0]

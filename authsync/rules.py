@@ -5,10 +5,13 @@ from authsync.schema import strata
 
 
 class Rules:
-    """A schema and relationships that conform to it, arranged for looking up pairs."""
+    """A schema and relationships that conform to it, arranged for looking up pairs.
 
-    def __init__(self, schema, relationships):
-        self._strata = strata(schema)
+    The strata of the schema can be given, so that they are found once for many relationships.
+    """
+
+    def __init__(self, schema, relationships, levels=None):
+        self._strata = strata(schema) if levels is None else levels
         self._terms = {
             (kind, name): parts for kind, entries in schema for name, word, parts in entries if word == "permission"
         }

@@ -2,7 +2,7 @@
 
 import unittest
 
-from authsync.errors import BadSchema, Refused
+from authsync.errors import BadFeed, BadSchema, Refused
 
 
 class RaisingTest(unittest.TestCase):
@@ -13,5 +13,10 @@ class RaisingTest(unittest.TestCase):
 
     def assert_bad_schema(self, line, what, call, *values):
         with self.assertRaises(BadSchema) as caught:
+            call(*values)
+        self.assertEqual((caught.exception.line, caught.exception.what), (line, what))
+
+    def assert_bad_feed(self, line, what, call, *values):
+        with self.assertRaises(BadFeed) as caught:
             call(*values)
         self.assertEqual((caught.exception.line, caught.exception.what), (line, what))

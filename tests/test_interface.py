@@ -27,6 +27,15 @@ FUNCTIONS = {
     "changes": [
         "difference(before, after)", "applies(grants, change)", "apply_change(grants, change)", "compose(first, second)",
     ],
+    "audits": ["audit(snapshot, entries, log)"],
+    "journal": ["write_log(log)", "read_log(text)"],
+    "notation": ["write_snapshot(snapshot)", "write_feed(entries)", "read_snapshot(text)", "read_feed(text)"],
+    "links": ["read_request(text)", "answer_to(primary, request)"],
+    "why": [
+        "revoking(schema, relationships, target, name, subject)",
+        "giving(schema, relationships, candidates, target, name, subject)",
+    ],
+    "whatif": ["effects(schema, relationships, other_schema, other_relationships)"],
 }
 CLASSES = {
     ("errors", "AuthError"): [],
@@ -43,6 +52,23 @@ CLASSES = {
     ("replica", "Replica"): [
         "__init__(self, snapshot)", "store_id(self)", "revision(self)", "receive(self, entry)", "waiting(self)",
         "waiting_entries(self)", "check(self, target, name, subject, at_least)", "snapshot(self)",
+    ],
+    ("caches", "Cache"): [
+        "__init__(self, store, revision, capacity)", "store_id(self)", "revision(self)", "size(self)",
+        "questions(self)", "store(self, target, name, subject, answer)", "apply(self, entry)",
+        "lookup(self, target, name, subject, at_least)", "check(self, replica, target, name, subject, at_least)",
+    ],
+    ("contents", "ContentStore"): [
+        "__init__(self, primary)", "put(self, target, text)", "version(self, target)", "token(self, target)",
+        "read(self, reader, target, name, subject)",
+    ],
+    ("journal", "Journal"): [
+        "__init__(self)", "ask(self, client, reader, target, name, subject)", "log(self)", "token_of(self, client)",
+        "forget(self, client)",
+    ],
+    ("links", "Follower"): [
+        "__init__(self, snapshot)", "store_id(self)", "revision(self)",
+        "check(self, target, name, subject, at_least)", "ask(self)", "take(self, text)",
     ],
 }
 

@@ -2,7 +2,9 @@
 
 import unittest
 
-from authsync.names import is_identifier, is_object, is_reference, split_reference, split_token, token_of, type_of
+from authsync.names import (
+    is_grant, is_identifier, is_object, is_reference, split_reference, split_token, token_of, type_of,
+)
 
 
 class IdentifierTest(unittest.TestCase):
@@ -31,6 +33,11 @@ class ObjectTest(unittest.TestCase):
         wrong = ("", "user", "user#m", "g:g#", "g:g#9", "g:g#_m", "g:g#M", "g:g#m#m", "g:#m", "#m", "g:g #m", "g:g# m")
         for text in (*wrong, "g:g#" + "m" * 21):
             self.assertIs(is_reference(text), False, text)
+
+    def test_grants(self):
+        self.assertIs(is_grant("doc:a", "view", "user:u"), True)
+        for grant in (("doc", "view", "user:u"), ("doc:a", "View", "user:u"), ("doc:a", "view", "user:u#member")):
+            self.assertIs(is_grant(*grant), False, grant)
 
     def test_parts_of_objects_and_references(self):
         self.assertEqual(type_of("user:type"), "user")
