@@ -158,3 +158,10 @@ def random_relationships(rng, schema, most):
     rows = sorted(rows)
     rng.shuffle(rows)
     return rows
+
+
+def random_updates(rng, schema, present):
+    """One to seven updates that can be written to relationships."""
+    chosen = {random_relationship(rng, schema) for _ in range(rng.randint(1, 5))}
+    chosen |= set(rng.sample(sorted(present), min(2, len(present))))
+    return [("delete" if row in present else rng.choice(["create", "touch"]), *row) for row in sorted(chosen)]

@@ -36,6 +36,11 @@ FUNCTIONS = {
         "giving(schema, relationships, candidates, target, name, subject)",
     ],
     "whatif": ["effects(schema, relationships, other_schema, other_relationships)"],
+    "expectations": [
+        "read_expectations(text)", "failures(schema, relationships, expectations)", "mutants(schema)",
+        "mutated(schema, mutant)", "untold(schema, relationships, expectations)",
+    ],
+    "listing": ["first_page(primary, question, size)", "next_page(primary, cursor, size)"],
 }
 CLASSES = {
     ("errors", "AuthError"): [],
@@ -69,6 +74,13 @@ CLASSES = {
     ("links", "Follower"): [
         "__init__(self, snapshot)", "store_id(self)", "revision(self)",
         "check(self, target, name, subject, at_least)", "ask(self)", "take(self, text)",
+    ],
+    ("watching", "Watch"): [
+        "__init__(self, snapshot, name, subject)", "revision(self)", "token(self)", "objects(self)",
+        "advance(self, entry)",
+    ],
+    ("succession", "Succession"): [
+        "__init__(self, primary)", "primary(self)", "ids(self)", "hand_over(self, store)", "demanded(self, token)",
     ],
 }
 

@@ -3,7 +3,7 @@
 import random
 import unittest
 
-from model import random_relationship, random_schema
+from model import random_schema, random_updates
 
 from authsync.caches import Cache
 from authsync.contents import ContentStore
@@ -14,13 +14,9 @@ from authsync.notation import write_feed, write_snapshot
 from authsync.primary import Primary
 from authsync.replica import Replica
 from authsync.schema import schema_text
+from authsync.succession import Succession
 from authsync.tables import evaluate
-
-
-def random_updates(rng, schema, present):
-    chosen = {random_relationship(rng, schema) for _ in range(rng.randint(1, 5))}
-    chosen |= set(rng.sample(sorted(present), min(2, len(present))))
-    return [("delete" if row in present else rng.choice(["create", "touch"]), *row) for row in sorted(chosen)]
+from authsync.watching import Watch
 
 
 def history(rng):
@@ -162,3 +158,39 @@ class OneTableTest(unittest.TestCase):
         else:
             self.assertEqual(shown[:2], (token, version))
             self.assert_answer((True, shown[2]), question, tables, split_token(token)[1])
+
+    def test_watches(self):
+        rng = random.Random(50)
+        for _ in range(30):
+            schema, primary, tables = history(rng)
+            for _, name, subject in self.questions(rng, schema, tables):
+                watch = Watch(primary.snapshot(f"main@{rng.randint(0, 3)}"), name, subject)
+                while watch.revision() < 12:
+                    watch.advance(primary.entry(watch.revision() + 1))
+                    table = tables[split_token(watch.token())[1]]
+                    self.assertEqual(watch.objects(), [one[0] for one in table if one[1:] == (name, subject)])
+
+    def test_successions(self):
+        rng = random.Random(51)
+        for _ in range(30):
+            schema = random_schema(rng)
+            row = Succession(Primary("s0", schema_text(schema)))
+            tables = {"s0@0": []}
+            for number in range(1, 15):
+                primary = row.primary()
+                if rng.random() < 0.3:
+                    token = row.hand_over(f"s{number}")
+                else:
+                    token = primary.write(random_updates(rng, schema, set(primary.relationships(""))))
+                tables[token] = evaluate(schema, row.primary().relationships(""))
+                self.check_row(rng, row, tables)
+
+    def check_row(self, rng, row, tables):
+        """Assert that what tokens demand is not older than they are, and answered by its table."""
+        order = list(tables)
+        for token in order:
+            demanded = f"{row.primary().store_id()}@{row.demanded(token)}"
+            self.assertGreaterEqual(order.index(demanded), order.index(token))
+            asked = [*tables[demanded], *rng.choice(list(tables.values()))]
+            for question in rng.sample(asked, min(4, len(asked))):
+                self.assertEqual(row.primary().check(*question, demanded), (question in tables[demanded], demanded))
