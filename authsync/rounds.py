@@ -1,12 +1,12 @@
 """Ranks, found stratum by stratum and round by round."""
 
 
-def _combined(operator, left, right):
-    """Return the subjects for which an operator holds, given those of its two sides."""
+def combined(operator, left, right):
+    """Return the dict of those for which an operator holds, given those for which its two sides do."""
     if operator == "&":
-        return {subject: True for subject in left if subject in right}
+        return {one: True for one in left if one in right}
     if operator == "-":
-        return {subject: True for subject in left if subject not in right}
+        return {one: True for one in left if one not in right}
     return {**left, **right}
 
 
@@ -27,6 +27,10 @@ class Rounds:
     def rank(self, pair, subject):
         """Return the rank of a grant, 0 for what is not granted."""
         return self._found.get(pair, {}).get(subject, 0)
+
+    def holders(self, pair):
+        """Return the subjects that are granted a pair, ascending."""
+        return sorted(self._found.get(pair, {}))
 
     def ranks(self):
         """Return the dict from the grants to their ranks."""
@@ -83,7 +87,7 @@ class Rounds:
         """Return the subjects for which the terms of a permission hold, from left to right."""
         holders = {}
         for operator, pairs in self._rules.terms(pair):
-            holders = _combined(operator, holders, self._found_in(pairs))
+            holders = combined(operator, holders, self._found_in(pairs))
         return holders
 
     def _found_in(self, pairs):

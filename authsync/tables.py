@@ -28,9 +28,16 @@ def check_relationships(schema, relationships):
 
 def check_question(schema, target, name, subject):
     """Raise Refused if a schema does not have a question."""
-    if not has_type(schema, type_of(target)) or not has_type(schema, type_of(subject)):
+    if not has_type(schema, type_of(subject)):
         raise Refused("unknown type")
-    if definition(schema, type_of(target), name) is None:
+    check_name(schema, type_of(target), name)
+
+
+def check_name(schema, kind, name):
+    """Raise Refused if a schema does not have a type, or the type not a name."""
+    if not has_type(schema, kind):
+        raise Refused("unknown type")
+    if definition(schema, kind, name) is None:
         raise Refused("unknown name")
 
 

@@ -40,6 +40,14 @@ FUNCTIONS = {
         "read_expectations(text)", "failures(schema, relationships, expectations)", "mutants(schema)",
         "mutated(schema, mutant)", "untold(schema, relationships, expectations)",
     ],
+    "expansion": ["who(schema, relationships, target, name)", "expand(schema, relationships, target, name)"],
+    "comparing": [
+        "atoms_of(schema, kind, name)", "is_held(schema, kind, name, atoms)", "apart(schema, kind, one, other)",
+        "example(schema, kind, one, other, subject_kind)", "classes_of(schema, kind)",
+    ],
+    "restoring": ["updates_between(before, after)", "restore(primary, at)"],
+    "netting": ["net_change(entries)", "news_for(entries, subject)", "flips(entries)", "digest(entries)"],
+    "demands": ["read_demand(text)"],
     "listing": ["first_page(primary, question, size)", "next_page(primary, cursor, size)"],
 }
 CLASSES = {
@@ -78,6 +86,10 @@ CLASSES = {
     ("watching", "Watch"): [
         "__init__(self, snapshot, name, subject)", "revision(self)", "token(self)", "objects(self)",
         "advance(self, entry)",
+    ],
+    ("demands", "Demand"): [
+        "__init__(self)", "note(self, token)", "take(self, other)", "token_for(self, store)", "tokens(self)",
+        "text(self)", "is_met(self, store, revision)",
     ],
     ("succession", "Succession"): [
         "__init__(self, primary)", "primary(self)", "ids(self)", "hand_over(self, store)", "demanded(self, token)",
