@@ -4,7 +4,6 @@ from authsync.errors import Refused
 from authsync.names import is_identifier, is_object, split_token, type_of
 
 PAGE_LIMIT = 100
-WORDS_OF_A_CURSOR = 6
 
 
 def first_page(primary, question, size):
@@ -19,11 +18,11 @@ def next_page(primary, cursor, size):
     words = cursor.split(" ")
     if not _is_cursor(words):
         raise Refused("no cursor")
-    return _page(primary, words[0], tuple(words[1:-1]), words[-1], size)
+    return _page(primary, words[0], words[1:-1], words[-1], size)
 
 
 def _is_question(question):
-    """Return whether a tuple of texts is a list question."""
+    """Return whether texts are the parts of a list question."""
     if len(question) != 4:
         return False
     word, asked, name, given = question
@@ -34,9 +33,10 @@ def _is_question(question):
 
 def _is_cursor(words):
     """Return whether words are those of a cursor."""
-    if len(words) != WORDS_OF_A_CURSOR or split_token(words[0]) is None or not _is_question(words[1:-1]):
+    question = words[1:-1]
+    if split_token(words[0]) is None or not _is_question(question):
         return False
-    return is_object(words[-1]) and type_of(words[-1]) == _type_of_items(words[1:-1])
+    return is_object(words[-1]) and type_of(words[-1]) == _type_of_items(question)
 
 
 def _type_of_items(question):

@@ -332,6 +332,15 @@ class ClassesTest(RaisingTest):
         self.assert_refused("too many to try", -1, classes_of, wide_schema(11, "permission p = r | s"), "doc")
         self.assertEqual(classes_of(wide_schema(10, "permission p = r | s"), "doc"), [["r"], ["s"], ["wide"], ["p"]])
 
+    def test_names_of_a_class_with_too_many_atoms_for_another_name(self):
+        terms = " | ".join([f"r.n{index}" for index in range(8)] + ["t.n0", "t.n1", "t"])
+        lines = ["type user", *[f"relation n{index}: user" for index in range(8)], "type doc", "relation r: user",
+                 "relation t: user", f"permission p = {terms} & r | r"]
+        self.assertEqual(classes_of(read_schema("\n".join(lines)), "doc"), [["r", "p"], ["t"]])
+        schema = read_schema("\n".join([*lines, "relation s: user"]))
+        self.assertEqual((len(atoms_of(schema, "doc", "p")), apart(schema, "doc", "p", "r")), (12, None))
+        self.assert_refused("too many to try", -1, classes_of, schema, "doc")
+
     def test_more_than_12_atoms_of_more_than_two_names(self):
         more = ["permission p = " + " | ".join(f"r.n{index}" for index in range(8)),
                 "permission q = " + " | ".join(f"s.n{index}" for index in range(4)),

@@ -140,6 +140,18 @@ class ExpandTest(RaisingTest):
             tree = terms[number % 3][1][0]
         self.assertEqual(tree, ("permission", "doc:40", "p", (("", ()), ("|", ()), ("|", ()), ("|", (relation("doc:40", "up"),)))))
 
+    def test_more_ways_to_equal_trees_than_could_be_counted(self):
+        schema = read_schema("type doc\nrelation up: doc\npermission p = up.p | up.q\npermission q = up.q & up.p")
+        rows = [(f"doc:{number}", "up", f"doc:{number + 1}") for number in range(40)]
+        rng = random.Random(40)
+        tree = expand(schema, rows, "doc:0", "p")
+        for number in range(40):
+            kind, target, name, terms = tree
+            self.assertEqual((kind, target, name in "pq", len(terms)), ("permission", f"doc:{number}", True, 2))
+            self.assertEqual([trees[0][2] for _, trees in terms], ["p", "q"] if name == "p" else ["q", "p"])
+            tree = rng.choice(terms)[1][0]
+        self.assertEqual(tree[3], (("", ()), ("|" if tree[2] == "p" else "&", ())))
+
     def test_a_deep_tree(self):
         rows = [(f"group:{number}", "member", f"group:{number + 1}#member") for number in range(500)]
         tree = expand(SCHEMA, rows, "group:0", "member")

@@ -191,6 +191,7 @@ class RestoringTest(RaisingTest):
 
     def test_more_relationships_than_can_be_written(self):
         primary = self.primary(*range(45))
+        self.assert_restored(primary, "main@0")
         primary.write(deleting(*range(10)))
         primary.write(deleting(*range(10, 20)))
         self.assert_refused_unchanged("too many relationships", primary, "main@0")

@@ -140,6 +140,12 @@ class SuccessionTest(RaisingTest):
         for token in ("third@0", "seconds@0", "other@7"):
             self.assert_refused_unchanged("token of another store", self.row.demanded, token)
 
+    def test_texts_that_are_no_tokens(self):
+        for _ in range(2):
+            for token in ("", "first", "first@", "first@01", "first@1001", "@0", "First@0"):
+                self.assert_refused_unchanged("token of another store", self.row.demanded, token)
+            self.row.hand_over(f"s{len(self.row.ids())}")
+
     def test_rows_do_not_share_anything(self):
         other = copy.deepcopy(self.row)
         self.row.hand_over("second")
